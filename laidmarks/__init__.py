@@ -1,0 +1,1 @@
+"""Laidmarks: marks that are laid, dragged and passed."""
