@@ -1,5 +1,6 @@
 """Notices: what is told of marks, gales and depths, each with a number and a day."""
 
+from laidmarks.errors import NoMark, NoNotices, NoNumber
 from laidmarks.seas import check_sea, is_cell, is_day, is_depth
 from laidmarks.wholes import is_whole_within
 
@@ -98,3 +99,21 @@ def are_notices(sea, thing):
         if by_number.setdefault(notice[0], notice) != notice:
             return False
     return True
+
+
+def check_notices(sea, thing):
+    """Refuse what is no sea, and what are no notices of it."""
+    if not are_notices(sea, thing):
+        raise NoNotices("these are no notices of the sea")
+
+
+def check_held(thing):
+    """Refuse what is no number to which notices can be held."""
+    if not is_whole_within(thing, 0, LAST_NUMBER):
+        raise NoNumber("this is no number to which notices are held")
+
+
+def check_mark(thing):
+    """Refuse what is no mark."""
+    if not is_mark(thing):
+        raise NoMark("this is no mark")

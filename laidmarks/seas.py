@@ -88,12 +88,17 @@ def is_water(sea, cell):
     return depth_at(sea, cell) != LAND
 
 
+def is_shoal(sea, cell, draught):
+    """Whether a cell of the sea is a bank for a draught."""
+    return depth_at(sea, cell) < draught
+
+
 def is_bank(sea, cell, draught):
     """Whether the cell is a bank for the draught; NoSea, NoCell, NoDraught."""
     check_sea(sea)
     check_cell(sea, cell)
     check_draught(draught)
-    return depth_at(sea, cell) < draught
+    return is_shoal(sea, cell, draught)
 
 
 def waters_beside(sea, cell):

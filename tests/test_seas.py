@@ -2,7 +2,7 @@
 
 import unittest
 
-from asking import FAR, WHATEVER, Asking, plain_sea, sea_of_texts
+from asking import FAR, WHATEVER, Asking, cells_of_water, drift_by_steps, no_wholes, plain_sea, sea_of_texts
 
 from laidmarks.errors import NoCell, NoDay, NoDraught, NoSea
 from laidmarks.seas import drift, is_bank, is_sea
@@ -25,11 +25,6 @@ NO_CELLS = WHATEVER + (
 )
 DRAUGHTS = tuple(range(1, 10))
 DAYS = tuple(range(0, 401))
-
-
-def no_wholes(good):
-    """Of things of whatever kind those that are not among these whole numbers."""
-    return [thing for thing in WHATEVER if type(thing) is not int or thing not in good]
 
 
 class IsSea(Asking):
@@ -101,32 +96,6 @@ class IsBank(Asking):
             self.refuses(NoCell, is_bank, SMALL, wrong, wrong)
         self.refuses(NoCell, is_bank, SMALL, (3, 0), 10)
         self.refuses(NoSea, is_bank, plain_sea(1, 1), (5, 5), 0)
-
-
-def cells_of_water(sea):
-    return [(column, row) for column, depths in enumerate(sea) for row, depth in enumerate(depths) if depth]
-
-
-def steps_between(sea, start):
-    """How many steps each cell of water is off, by rounds over all cells: another way than the program's."""
-    off = {start: 0}
-    changed = True
-    while changed:
-        changed = False
-        for here in cells_of_water(sea):
-            for there in list(off):
-                beside = abs(here[0] - there[0]) + abs(here[1] - there[1]) == 1
-                if beside and off[there] + 1 < off.get(here, FAR):
-                    off[here] = off[there] + 1
-                    changed = True
-    return off
-
-
-def drift_by_steps(sea, start, days):
-    if sea[start[0]][start[1]] == 0:
-        return (start,)
-    off = steps_between(sea, start)
-    return tuple(sorted(cell for cell in off if off[cell] <= days))
 
 
 def mixed_seas():
