@@ -9,6 +9,11 @@ LAST_MARK = 12
 MOST_NOTICES = 30
 
 
+def is_number(thing):
+    """Whether a thing of whatever kind is a number that a notice can have."""
+    return is_whole_within(thing, 1, LAST_NUMBER)
+
+
 def is_mark(thing):
     """Whether a thing of whatever kind is a mark."""
     return is_whole_within(thing, 1, LAST_MARK)
@@ -84,7 +89,7 @@ def is_notice(sea, thing):
     if not isinstance(thing, tuple) or len(thing) != 3:
         return False
     number, day, deed = thing
-    return is_whole_within(number, 1, LAST_NUMBER) and is_day(day) and is_deed(sea, deed)
+    return is_number(number) and is_day(day) and is_deed(sea, deed)
 
 
 def are_notices(sea, thing):

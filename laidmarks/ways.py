@@ -2,7 +2,7 @@
 
 from laidmarks.errors import NoChannel, NoNumber
 from laidmarks.seas import LEAST_COLUMNS, MOST_COLUMNS
-from laidmarks.wholes import is_whole_within
+from laidmarks.wholes import are_rising_within, is_whole_within
 
 LAST_ROW = 8
 
@@ -14,9 +14,7 @@ def is_row(thing):
 
 def are_rows(thing):
     """Whether a thing of whatever kind is a rising tuple of rows."""
-    if not isinstance(thing, tuple) or not all([is_row(row) for row in thing]):
-        return False
-    return all([low < high for low, high in zip(thing, thing[1:])])
+    return are_rising_within(thing, 0, LAST_ROW)
 
 
 def is_channel(thing):

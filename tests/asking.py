@@ -31,6 +31,9 @@ def no_wholes(good):
     return [thing for thing in WHATEVER if type(thing) is not int or thing not in good]
 
 
+NO_DRAUGHTS = no_wholes(range(1, 10)) + [0, 10, -1, True, False, "1", (1,), [1], {1: 1}]
+
+
 def cells_of_water(sea):
     return [(column, row) for column, depths in enumerate(sea) for row, depth in enumerate(depths) if depth]
 
@@ -154,6 +157,12 @@ class Asking(unittest.TestCase):
     def refuses(self, error, call, *things):
         how, answer = self.asked_twice(call, things)
         self.assertEqual((how, type(answer)), ("refused", error), things)
+
+    def refuses_with(self, error, fields, call, *things):
+        """Refused with this class, and with these fields: a dict of their names."""
+        self.refuses(error, call, *things)
+        how, answer = self.asked_twice(call, things)
+        self.assertEqual(repr({name: getattr(answer, name) for name in fields}), repr(fields), things)
 
     def tells_in_any_order(self, wanted, call, sea, notices, *rest):
         """The same is told in whatever order the notices are, and where they are told again."""

@@ -4,7 +4,7 @@ import random
 import unittest
 
 from asking import (
-    FAR, WHATEVER, Asking, all_cells, lay, mixed_notices, mixed_sea, no_wholes, numbered, plain_sea, refusals_of_day,
+    FAR, NO_DRAUGHTS, WHATEVER, Asking, all_cells, lay, mixed_notices, mixed_sea, numbered, plain_sea, refusals_of_day,
     sea_of_texts,
 )
 
@@ -16,7 +16,6 @@ DAY, NIGHT = False, True
 ROWS = 5
 SEA = plain_sea(4, ROWS)
 ALL_ROWS = tuple(range(ROWS))
-NO_DRAUGHTS = no_wholes(range(1, 10)) + [0, 10, -1, True, False, "1", (1,), [1], {1: 1}]
 NO_CELLS = WHATEVER + (
     (4, 0), (0, 5), (-1, 0), (0, -1), (4, 5), (FAR, 0), (0, -FAR), (True, 0), (0, False), ("0", 0), (0, None),
     [0, 0], (0,), (0, 0, 0), ((0, 0),), {0: 0, 1: 0}, "0.0",
